@@ -1,0 +1,1 @@
+"""Crews by the forecast: when a crew clears the snow of a night."""

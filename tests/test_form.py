@@ -1,0 +1,72 @@
+"""The form of the package's files: what can be seen of it without running them."""
+
+import ast
+import pathlib
+import unittest
+
+PACKAGE = pathlib.Path(__file__).resolve().parent.parent / "snowcrews"
+
+BUILT_INS = set("""len range enumerate zip min max sum abs sorted reversed int str bool list tuple dict set frozenset
+    isinstance ord repr any all divmod""".split())
+
+FORBIDDEN_NODES = (ast.With, ast.Delete, ast.Global, ast.Nonlocal, ast.Assert, ast.Yield, ast.YieldFrom, ast.Match,
+                   ast.AsyncFunctionDef, ast.Await, ast.SetComp, ast.DictComp, ast.GeneratorExp, ast.NamedExpr,
+                   ast.Starred, ast.Div, ast.Import, ast.ImportFrom, ast.AnnAssign)
+
+
+def files():
+    return sorted(PACKAGE.glob("*.py"))
+
+
+def bound_names(tree):
+    """Names that the file itself gives a meaning, anywhere in it."""
+    names = set()
+    for node in ast.walk(tree):
+        if isinstance(node, (ast.FunctionDef, ast.ClassDef)):
+            names.add(node.name)
+        elif isinstance(node, ast.arg):
+            names.add(node.arg)
+        elif isinstance(node, ast.Name) and isinstance(node.ctx, ast.Store):
+            names.add(node.id)
+    return names
+
+
+class Form(unittest.TestCase):
+    def test_only_python_files_lie_there(self):
+        others = [path.name for path in PACKAGE.iterdir() if path.suffix != ".py" and path.name != "__pycache__"]
+        self.assertEqual(others, [])
+        self.assertIn("__init__.py", [path.name for path in files()])
+
+    def test_signs_and_sizes(self):
+        for path in files():
+            text = path.read_bytes().decode("ascii")
+            self.assertEqual([sign for sign in text if sign != "\n" and not " " <= sign <= "~"], [], path)
+            self.assertLessEqual(len(text.splitlines()), 400, path)
+            self.assertLessEqual(max(len(row) for row in text.splitlines()), 120, path)
+
+    def test_functions_are_short(self):
+        for path in files():
+            for node in ast.walk(ast.parse(path.read_text())):
+                if isinstance(node, ast.FunctionDef):
+                    self.assertLessEqual(node.end_lineno - node.lineno + 1, 40, (path, node.name))
+
+    def test_nothing_is_imported_and_no_form_is_used_that_is_out(self):
+        for path in files():
+            for node in ast.walk(ast.parse(path.read_text())):
+                self.assertNotIsInstance(node, FORBIDDEN_NODES, (path, getattr(node, "lineno", 0)))
+                if isinstance(node, (ast.FunctionDef, ast.ClassDef)):
+                    self.assertEqual(node.decorator_list, [], (path, node.name))
+                if isinstance(node, ast.Constant):
+                    self.assertNotIsInstance(node.value, (float, bytes, complex), (path, node.lineno))
+
+    def test_only_known_names_are_read(self):
+        for path in files():
+            tree = ast.parse(path.read_text())
+            own = bound_names(tree)
+            read = {node.id for node in ast.walk(tree) if isinstance(node, ast.Name)}
+            self.assertEqual(read - own - BUILT_INS, set(), path)
+            self.assertEqual(own & BUILT_INS, set(), path)
+
+
+if __name__ == "__main__":
+    unittest.main()
