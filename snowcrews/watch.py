@@ -4,6 +4,9 @@ BEGINS = 0
 CREW = 1
 SNOW = 2
 CHECK = 3
+CHEAPEST = 4
+FEWEST = 5
+SHALLOW = 6
 
 NOT_AS_TOLD = -1
 NO_HOUR_LEFT = -5
@@ -27,13 +30,26 @@ class Night:
     def __init__(self, depth):
         self.depth = depth
         self.depths = []
+        self.plan = []
         self.worked = 0
         self.call_outs = 0
         self.in_row = 0
         self.rested = 0
 
+    def copied(self):
+        """Another night that has come to the same, to go on from here in another way."""
+        other = Night(self.depth)
+        other.depths = list(self.depths)
+        other.plan = list(self.plan)
+        other.worked = self.worked
+        other.call_outs = self.call_outs
+        other.in_row = self.in_row
+        other.rested = self.rested
+        return other
+
     def works(self):
         """The crew works in the next hour."""
+        self.plan.append(1)
         if self.in_row == 0:
             self.call_outs += 1
         self.worked += 1
@@ -42,6 +58,7 @@ class Night:
 
     def rests(self):
         """The crew does not work in the next hour."""
+        self.plan.append(0)
         self.in_row = 0
         self.rested += 1
 
@@ -49,6 +66,10 @@ class Night:
         """So deep it lies behind the hour."""
         self.depth = depth
         self.depths.append(depth)
+
+    def deepest(self):
+        """The most that it lies behind any hour: how deep it lies ahead of the first does not count."""
+        return max([0] + self.depths)
 
 
 class Watch:
@@ -103,6 +124,33 @@ class Watch:
                 return [CANNOT_BE, hour, wrong]
         return [self.cost(night), night.worked, night.call_outs] + night.depths
 
+    def cheapest(self):
+        return best_answer([(self.cost(night), night.worked, night.plan) for night in self.nights_that_can_be()])
+
+    def fewest(self):
+        return best_answer([(night.worked, night.call_outs, night.plan) for night in self.nights_that_can_be()])
+
+    def shallow(self):
+        # A crew that never works does nothing wrong, so there is always a night to take the least of.
+        return [min([night.deepest() for night in self.nights_of_crew()])]
+
+    def nights_that_can_be(self):
+        """The nights of all plans that can be."""
+        return [night for night in self.nights_of_crew() if night.deepest() <= self.may_lie]
+
+    def nights_of_crew(self):
+        """The nights of all plans in which the crew works neither too long nor too soon, however deep it lies."""
+        nights = [Night(self.deep)]
+        for fall in self.falls:
+            longer = []
+            for night in nights:
+                for works in (0, 1):
+                    other = night.copied()
+                    if self.pass_hour(other, fall, works) in (NOTHING_WRONG, TOO_DEEP):
+                        longer.append(other)
+            nights = longer
+        return nights
+
     def is_plan(self, numbers):
         return len(numbers) == len(self.falls) and all([number in (0, 1) for number in numbers])
 
@@ -133,6 +181,16 @@ class Watch:
         return night.worked * self.hour_costs + night.call_outs * self.call_costs
 
 
+def best_answer(ranked):
+    """The answer for all plans that can be, each with two numbers ahead of it of which less is better."""
+    if len(ranked) == 0:
+        return [CANNOT_BE]
+    # Of plans with the same two numbers the least is the earlier one: it has 0 where they first differ.
+    best = min(ranked)
+    as_good = [rank for rank in ranked if rank[0] == best[0] and rank[1] == best[1]]
+    return [best[0], best[1], len(as_good)] + best[2]
+
+
 def answers(calls):
     """For each call of the list, in order: how many numbers are answered, then these."""
     watch = Watch()
@@ -156,7 +214,7 @@ def numbers_begin(calls, at):
 def numbers_count(calls, at):
     if calls[at] == CHECK:
         return calls[at + 1]
-    counts = {BEGINS: 3, CREW: 4, SNOW: 1}
+    counts = {BEGINS: 3, CREW: 4, SNOW: 1, CHEAPEST: 0, FEWEST: 0, SHALLOW: 0}
     return counts[calls[at]]
 
 
@@ -167,4 +225,10 @@ def answer_call(watch, call, numbers):
         return watch.crew(numbers[0], numbers[1], numbers[2], numbers[3])
     if call == SNOW:
         return watch.snow(numbers[0])
-    return watch.check(numbers)
+    if call == CHECK:
+        return watch.check(numbers)
+    if call == CHEAPEST:
+        return watch.cheapest()
+    if call == FEWEST:
+        return watch.fewest()
+    return watch.shallow()

@@ -4,6 +4,10 @@ from snowcrews.watch import answers
 
 LARGEST = 4294967295
 
+CHEAPEST = [4]
+FEWEST = [5]
+SHALLOW = [6]
+
 
 def begins(deep, clears, may):
     return [0, deep, clears, may]
@@ -29,6 +33,8 @@ def line(*calls):
     """The calls as the one list that is handed in, held to what may be handed in."""
     if not 1 <= len(calls) <= 60:
         raise ValueError("a line has 1 to 60 calls")
+    if sum(call in (CHEAPEST, FEWEST, SHALLOW) for call in calls) > 8:
+        raise ValueError("a line has at most 8 calls of cheapest, fewest and shallow together")
     numbers = [number for call in calls for number in call]
     if len(numbers) > 900:
         raise ValueError("a line has at most 900 numbers")
